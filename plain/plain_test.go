@@ -1,15 +1,12 @@
 package plain_test
 
 import (
-	"fmt"
-	"math/rand"
 	"reflect"
 	"slices"
 	"strings"
 	"testing"
 
 	"comb/api"
-	"comb/gram"
 	"comb/plain"
 )
 
@@ -264,144 +261,5 @@ func TestSets(t *testing.T) {
 		if !slices.EqualFunc(first, c.first, func(a, b []int) bool { return slices.Equal(a, b) }) {
 			t.Errorf("B5: Sets(%q): first %v, want %v", c.text, first, c.first)
 		}
-	}
-}
-
-// randomGrammar makes a text of few rules, names of one letter and tokens of one letter.
-func randomGrammar(r *rand.Rand) string {
-	names := []string{"a", "b", "c"}[:1+r.Intn(3)]
-	var out strings.Builder
-	for _, name := range names {
-		out.WriteString(name + " =" + randomAlts(r, names, 2) + ";\n")
-	}
-	return out.String()
-}
-
-func randomAlts(r *rand.Rand, names []string, depth int) string {
-	out := ""
-	for i := range 1 + r.Intn(3) {
-		if i > 0 {
-			out += " |"
-		}
-		for range r.Intn(3) {
-			mark := []string{"", "", "", "*", "+", "?"}[r.Intn(6)]
-			switch kind := r.Intn(5); {
-			case kind < 2:
-				out += " " + []string{"A", "B", "C"}[r.Intn(3)] + mark
-			case kind < 4 || depth == 0:
-				out += " " + names[r.Intn(len(names))] + mark
-			default:
-				out += " (" + randomAlts(r, names, depth-1) + ")" + mark
-			}
-		}
-	}
-	return out
-}
-
-// eachRandom hands grammars that have no fault, and what is made of them, on to check.
-func eachRandom(t *testing.T, seed int64, check func(text string, made api.Plain)) {
-	t.Helper()
-	r := rand.New(rand.NewSource(seed))
-	count := 0
-	for range 1500 {
-		text := randomGrammar(r)
-		if made, errno, _ := plain.Make(text); errno == api.OK {
-			count++
-			check(text, made)
-		}
-	}
-	if count < 200 {
-		t.Errorf("only %d of the grammars had no fault", count)
-	}
-}
-
-func TestMeaning(t *testing.T) {
-	const longest = 4
-	eachRandom(t, 1, func(text string, made api.Plain) {
-		grammar, _, _ := gram.Parse(text)
-		want := meaning{longest: longest}.ofFirst(grammar.Rules)
-		got := derived(made, func(a, b string) (string, bool) { return a + b, len(a+b) <= longest })[len(made.Tokens)]
-		if !reflect.DeepEqual(got, want) {
-			t.Errorf("B6: of the productions of %q come %v, it means %v", text, got, want)
-		}
-	})
-}
-
-func TestSetsOfRandom(t *testing.T) {
-	eachRandom(t, 2, func(text string, made api.Plain) {
-		empty, first, _, _ := plain.Sets(text)
-		if len(empty) != len(made.Tokens)+len(made.Names) || len(first) != len(empty) {
-			t.Fatalf("B5: Sets(%q) tells of %d and %d symbols", text, len(empty), len(first))
-		}
-		for symbol, begins := range derived(made, func(a, b string) (string, bool) { return (a + b)[:min(1, len(a+b))], true }) {
-			var want []int
-			for i, token := range made.Tokens {
-				if begins[token] {
-					want = append(want, i)
-				}
-			}
-			if empty[symbol] != begins[""] || !slices.Equal(first[symbol], want) {
-				t.Errorf("B5: Sets(%q): symbol %d: %v, %v, want %v, %v", text, symbol, empty[symbol], first[symbol], begins[""], want)
-			}
-		}
-	})
-}
-
-func TestAnyText(t *testing.T) {
-	r := rand.New(rand.NewSource(3))
-	signs := "aaabcABC===;;;;|()*+?  \n#%\x00\xff"
-	for range 20000 {
-		b := make([]byte, r.Intn(30))
-		for i := range b {
-			b[i] = signs[r.Intn(len(signs))]
-		}
-		_, parsed, where := gram.Parse(string(b))
-		made, errno, at := plain.Make(string(b))
-		if parsed != api.OK && (errno != parsed || at != where) || at < 0 || at > len(b) || (errno == api.OK) != (made.Prods != nil) {
-			t.Errorf("G1, G2, B1: Make(%q) = %v, %d, %d", b, made, errno, at)
-		}
-	}
-}
-
-// checkApart writes over each list, as far as its memory goes, and holds against G4 that no other one is changed.
-func checkApart(t *testing.T, lists [][]int) {
-	t.Helper()
-	for i, list := range lists {
-		list = list[:cap(list)]
-		for k := range list {
-			list[k] = -2 - i
-		}
-	}
-	for i, list := range lists {
-		for _, x := range list[:cap(list)] {
-			if x != -2-i {
-				t.Errorf("G4: lists %d and %d of one answer share memory", i, -2-x)
-			}
-		}
-	}
-}
-
-func TestNewMemory(t *testing.T) {
-	text := "%left A B;a=A b (B b|A)+ (A)* %prec B|b (A|b A b)+;b=A?|B+|A B A B;"
-	made := mustMake(t, text)
-	before := fmt.Sprint(made)
-	other := mustMake(t, text)
-	lists := [][]int{other.Binds, other.Kinds}
-	for _, prod := range other.Prods {
-		lists = append(lists, prod.Right)
-	}
-	checkApart(t, lists)
-	other.Tokens[1], other.Names[1] = "spoilt", "spoilt"
-	other.Prods[1] = api.Prod{}
-	if fmt.Sprint(made) != before || fmt.Sprint(mustMake(t, text)) != before {
-		t.Errorf("G3, G4: two answers share memory: %v, was %v", made, before)
-	}
-	empty, first, _, _ := plain.Sets(text)
-	before = fmt.Sprint(empty, first)
-	spoilt, lists, _, _ := plain.Sets(text)
-	spoilt[0] = true
-	checkApart(t, lists)
-	if fmt.Sprint(empty, first) != before {
-		t.Errorf("G4: two answers of Sets share memory: %v, %v, was %v", empty, first, before)
 	}
 }

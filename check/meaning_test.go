@@ -1,9 +1,14 @@
-package plain_test
+package check
 
 import (
 	"maps"
+	"reflect"
+	"slices"
+	"testing"
 
 	"comb/api"
+	"comb/gram"
+	"comb/plain"
 )
 
 // rows are rows of tokens of one letter each.
@@ -117,4 +122,36 @@ func ofRight(right []int, found []rows, join func(a, b string) (string, bool)) r
 		out = next
 	}
 	return out
+}
+
+func TestMeaning(t *testing.T) {
+	const longest = 4
+	eachGrammar(t, 1, func(text string, made api.Plain) {
+		grammar, _, _ := gram.Parse(text)
+		want := meaning{longest: longest}.ofFirst(grammar.Rules)
+		got := derived(made, func(a, b string) (string, bool) { return a + b, len(a+b) <= longest })[len(made.Tokens)]
+		if !reflect.DeepEqual(got, want) {
+			t.Errorf("B6: of the productions of %q come %v, it means %v", text, got, want)
+		}
+	})
+}
+
+func TestSetsOfRandom(t *testing.T) {
+	eachGrammar(t, 2, func(text string, made api.Plain) {
+		empty, first, _, _ := plain.Sets(text)
+		if len(empty) != len(made.Tokens)+len(made.Names) || len(first) != len(empty) {
+			t.Fatalf("B5: Sets(%q) tells of %d and %d symbols", text, len(empty), len(first))
+		}
+		for symbol, begins := range derived(made, func(a, b string) (string, bool) { return (a + b)[:min(1, len(a+b))], true }) {
+			var want []int
+			for i, token := range made.Tokens {
+				if begins[token] {
+					want = append(want, i)
+				}
+			}
+			if empty[symbol] != begins[""] || !slices.Equal(first[symbol], want) {
+				t.Errorf("B5: Sets(%q): symbol %d: %v, %v, want %v, %v", text, symbol, empty[symbol], first[symbol], begins[""], want)
+			}
+		}
+	})
 }
