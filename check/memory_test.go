@@ -4,11 +4,14 @@ import (
 	"fmt"
 	"slices"
 	"testing"
+	"unsafe"
 
 	"comb/api"
 	"comb/look"
+	"comb/pack"
 	"comb/plain"
 	"comb/state"
+	"comb/tabs"
 )
 
 const busy = "%left A B;a=A b (B b|A)+ (A)* %prec B|b (A|b A b)+;b=A?|B+|A B A B;"
@@ -96,4 +99,56 @@ func TestLookNew(t *testing.T) {
 		checkApart(t, "Look", aheads, func(ahead *api.Ahead) *int { return &ahead.Prod })
 		clear(aheads)
 	})
+}
+
+func TestTabsNew(t *testing.T) {
+	checkSame(t, "tabs.Make", func() [][]api.Cell { cells, _, _, _, _, _ := tabs.Make(busy); return cells }, func(cells [][]api.Cell) {
+		checkApart(t, "tabs.Make", cells, func(cell *api.Cell) *int { return &cell.To })
+		clear(cells)
+	})
+	checkSame(t, "tabs.Make", func() [][]int { _, gotos, _, _, _, _ := tabs.Make(busy); return gotos }, func(gotos [][]int) {
+		checkApart(t, "tabs.Make", gotos, itself)
+		clear(gotos)
+	})
+	checkSame(t, "tabs.Make", func() []api.Clash { _, _, clashes, _, _, _ := tabs.Make(busy); return clashes }, func(clashes []api.Clash) {
+		if len(clashes) < 2 {
+			t.Fatalf("only %d cells clash", len(clashes))
+		}
+		var lists [][]int
+		for _, clash := range clashes {
+			lists = append(lists, clash.Prods)
+		}
+		checkApart(t, "tabs.Make", lists, itself)
+		clear(clashes)
+	})
+}
+
+// spoil makes a text in memory of its own, hands it on, and then writes over it, so that what was kept of it is changed too.
+func spoil(text string, use func(string)) {
+	memory := []byte(text)
+	use(unsafe.String(&memory[0], len(memory)))
+	for i := range memory {
+		memory[i] = '?'
+	}
+}
+
+// TestPackNew holds against G4 that neither a pack's bytes nor what is loaded of them keep what was handed in, and against G3 that a pack answers by its own bytes alone.
+func TestPackNew(t *testing.T) {
+	const text, other = "%left B; s = s B s | C?;", "abcdef = A (B | C)* abcdef | ;"
+	var b string
+	spoil(text, func(text string) { b, _, _ = pack.Make(text) })
+	if again, errno, _ := pack.Make(text); errno != api.OK || again != b {
+		t.Errorf("G3, G4: Make(%q) = %q, was %q", text, again, b)
+	}
+	var p, q *pack.Pack
+	spoil(b, func(b string) { p, _ = pack.Load(b) })
+	otherBytes, _, _ := pack.Make(other)
+	spoil(otherBytes, func(b string) { q, _ = pack.Load(b) })
+	for _, c := range []struct {
+		text string
+		p    *pack.Pack
+	}{{text, p}, {other, q}, {text, p}} {
+		made, _, _ := plain.Make(c.text)
+		madeTable(t, c.text).checkTold(t, c.text, made, c.p)
+	}
 }

@@ -8,8 +8,10 @@ import (
 	"comb/api"
 	"comb/gram"
 	"comb/look"
+	"comb/pack"
 	"comb/plain"
 	"comb/state"
+	"comb/tabs"
 )
 
 // call is a face that is handed a grammar's text: it tells whether there is an answer beside the error, and the error with its place.
@@ -18,7 +20,7 @@ type call struct {
 	of   func(text string) (bool, api.Errno, int)
 }
 
-// calls tells the faces from chapter 2 on; each has all errors of those ahead of it.
+// calls tells the faces from chapter 2 on; each has all errors of those ahead of it. That a grammar clashes is an error of pack.Make's own, and no error here.
 func calls() []call {
 	return []call{
 		{"plain.Make", func(text string) (bool, api.Errno, int) {
@@ -37,6 +39,17 @@ func calls() []call {
 			aheads, errno, at := look.Look(text)
 			return aheads != nil, errno, at
 		}},
+		{"tabs.Make", func(text string) (bool, api.Errno, int) {
+			cells, gotos, clashes, settled, errno, at := tabs.Make(text)
+			return cells != nil || gotos != nil || clashes != nil || settled != 0, errno, at
+		}},
+		{"pack.Make", func(text string) (bool, api.Errno, int) {
+			b, errno, at := pack.Make(text)
+			if _, _, clashes, _, _, _ := tabs.Make(text); clashes != nil && errno == api.ErrClash {
+				return b == "", api.OK, at
+			}
+			return b != "", errno, at
+		}},
 	}
 }
 
@@ -53,7 +66,7 @@ func checkRefused(t *testing.T, text string, errno api.Errno, at int, calls []ca
 	}
 }
 
-// TestToldOn holds against B1, B5, D3 and F2 that each error of the chapters ahead is told on with its place.
+// TestToldOn holds against B1, B5, D3, F2, K3 and L1 that each error of the chapters ahead is told on with its place.
 func TestToldOn(t *testing.T) {
 	many := strings.Repeat("|", 300)
 	for _, c := range []struct {
@@ -83,7 +96,7 @@ func TestToldOn(t *testing.T) {
 	}
 }
 
-// TestManyStates holds just as many states as there may be, and one more, against D3 and F2.
+// TestManyStates holds just as many states as there may be, and one more, against D3, F2, K3 and L1.
 func TestManyStates(t *testing.T) {
 	// State 0, one behind the name, and one behind each sign of the right side; a group adds one behind its helper.
 	row := func(count int) string { return strings.Repeat(" A", count) }

@@ -87,6 +87,7 @@ func TestFunctions(t *testing.T) {
 	})
 }
 
+// TestPackageLevel lets only pack have a value that is worked out at start-up, its sum's table.
 func TestPackageLevel(t *testing.T) {
 	eachFile(t, func(path string, _ []byte, _ *token.FileSet, file *ast.File) {
 		for _, decl := range file.Decls {
@@ -95,8 +96,13 @@ func TestPackageLevel(t *testing.T) {
 				continue
 			}
 			for _, spec := range group.Specs {
-				if len(spec.(*ast.ValueSpec).Values) == 0 {
+				values := spec.(*ast.ValueSpec).Values
+				if len(values) == 0 {
 					t.Errorf("%s: a variable without a value at package level", path)
+				}
+				called := func(value ast.Expr) bool { _, ok := value.(*ast.CallExpr); return ok }
+				if slices.ContainsFunc(values, called) && filepath.Base(filepath.Dir(path)) != "pack" {
+					t.Errorf("%s: a value made by a call at package level", path)
 				}
 			}
 		}
