@@ -7,9 +7,12 @@ import (
 	"unsafe"
 
 	"comb/api"
+	"comb/comb"
+	"comb/fold"
 	"comb/look"
 	"comb/pack"
 	"comb/plain"
+	"comb/run"
 	"comb/state"
 	"comb/tabs"
 )
@@ -150,5 +153,94 @@ func TestPackNew(t *testing.T) {
 	}{{text, p}, {other, q}, {text, p}} {
 		made, _, _ := plain.Make(c.text)
 		madeTable(t, c.text).checkTold(t, c.text, made, c.p)
+	}
+}
+
+// checkNodes holds against G3 and G4 the nodes that a call makes of a row, which it is handed anew each time, and which is then written over.
+func checkNodes(t *testing.T, what string, row []int, parse func(row []int) ([]api.Node, api.Errno, int)) {
+	t.Helper()
+	answer := func() []api.Node {
+		handed := slices.Clone(row)
+		nodes, errno, at := parse(handed)
+		if errno != api.OK || at != 0 || len(nodes) < 10 {
+			t.Fatalf("%s: %d nodes, %d, %d", what, len(nodes), errno, at)
+		}
+		if !slices.Equal(handed, row) {
+			t.Errorf("G4: %s changes the row", what)
+		}
+		for i := range handed {
+			handed[i] = -7
+		}
+		return nodes
+	}
+	checkSame(t, what, answer, func(nodes []api.Node) {
+		var lists [][]int
+		for _, node := range nodes {
+			lists = append(lists, node.Kids)
+		}
+		checkApart(t, what, lists, itself)
+		clear(nodes)
+	})
+}
+
+func TestNodesNew(t *testing.T) {
+	const text = "s = (A b (C | D b)*)+ E; b = B b | ;"
+	row := []int{1, 5, 5, 2, 3, 5, 5, 2, 1, 2, 1, 3, 4}
+	b, errno, at := pack.Make(text)
+	if errno != api.OK {
+		t.Fatalf("L1: Make(%q): %d, %d", text, errno, at)
+	}
+	checkNodes(t, "run.Parse", row, func(row []int) ([]api.Node, api.Errno, int) { return run.Parse(b, row) })
+	checkNodes(t, "fold.Parse", row, func(row []int) ([]api.Node, api.Errno, int) { return fold.Parse(text, row) })
+}
+
+func TestGenerateNew(t *testing.T) {
+	checkSame(t, "Generate", func() []api.Clash { _, clashes, _, _ := comb.Generate(busy); return clashes }, func(clashes []api.Clash) {
+		if len(clashes) < 2 {
+			t.Fatalf("only %d cells clash", len(clashes))
+		}
+		var lists [][]int
+		for _, clash := range clashes {
+			lists = append(lists, clash.Prods)
+		}
+		checkApart(t, "Generate", lists, itself)
+		clear(clashes)
+	})
+}
+
+// TestReadNew holds against G4 that what is generated or read keeps nothing of what was handed in, and against G3 that it is the same again.
+func TestReadNew(t *testing.T) {
+	const text, words, tree = "s = A s | b; b = B*;", "A A B B", "(s A (s A (s (b B B))))"
+	var b string
+	spoil(text, func(text string) { b, _, _, _ = comb.Generate(text) })
+	if again, _, errno, _ := comb.Generate(text); errno != api.OK || again != b {
+		t.Errorf("G3, G4: Generate(%q) = %q, was %q", text, again, b)
+	}
+	var read string
+	spoil(b, func(b string) {
+		spoil(words, func(words string) { read, _, _ = comb.Read(b, words) })
+	})
+	if read != tree {
+		t.Errorf("G4: Read(%q, %q) = %q, want %q", text, words, read, tree)
+	}
+	answer := func() []comb.Result {
+		var results []comb.Result
+		texts := make([]string, 40)
+		spoil(b, func(b string) {
+			spoil(words, func(words string) {
+				for i := range texts {
+					texts[i] = words
+				}
+				results, _ = comb.ReadAll(b, texts, 7)
+			})
+		})
+		clear(texts)
+		return results
+	}
+	checkSame(t, "ReadAll", answer, func(results []comb.Result) { clear(results[:cap(results)]) })
+	for i, result := range answer() {
+		if result != (comb.Result{Tree: tree}) {
+			t.Errorf("G4: ReadAll: text %d: %v, want %q", i, result, tree)
+		}
 	}
 }

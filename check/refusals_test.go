@@ -6,6 +6,8 @@ import (
 	"testing"
 
 	"comb/api"
+	"comb/comb"
+	"comb/fold"
 	"comb/gram"
 	"comb/look"
 	"comb/pack"
@@ -20,7 +22,13 @@ type call struct {
 	of   func(text string) (bool, api.Errno, int)
 }
 
-// calls tells the faces from chapter 2 on; each has all errors of those ahead of it. That a grammar clashes is an error of pack.Make's own, and no error here.
+// clashes tells whether a cell of a grammar clashes. That is an error from pack.Make on, and no error here.
+func clashes(text string) bool {
+	_, _, found, _, _, _ := tabs.Make(text)
+	return found != nil
+}
+
+// calls tells the faces from chapter 2 on; each has all errors of those ahead of it.
 func calls() []call {
 	return []call{
 		{"plain.Make", func(text string) (bool, api.Errno, int) {
@@ -45,10 +53,24 @@ func calls() []call {
 		}},
 		{"pack.Make", func(text string) (bool, api.Errno, int) {
 			b, errno, at := pack.Make(text)
-			if _, _, clashes, _, _, _ := tabs.Make(text); clashes != nil && errno == api.ErrClash {
+			if errno == api.ErrClash && clashes(text) {
 				return b == "", api.OK, at
 			}
 			return b != "", errno, at
+		}},
+		{"fold.Parse", func(text string) (bool, api.Errno, int) {
+			nodes, errno, at := fold.Parse(text, []int{-1})
+			if errno == api.ErrClash && clashes(text) || errno == api.ErrWord {
+				return nodes == nil, api.OK, at
+			}
+			return nodes != nil, errno, at
+		}},
+		{"comb.Generate", func(text string) (bool, api.Errno, int) {
+			b, found, errno, at := comb.Generate(text)
+			if errno == api.ErrClash && clashes(text) {
+				return b == "" && found != nil, api.OK, at
+			}
+			return b != "" || found != nil, errno, at
 		}},
 	}
 }
@@ -66,7 +88,7 @@ func checkRefused(t *testing.T, text string, errno api.Errno, at int, calls []ca
 	}
 }
 
-// TestToldOn holds against B1, B5, D3, F2, K3 and L1 that each error of the chapters ahead is told on with its place.
+// TestToldOn holds against B1, B5, D3, F2, K3, L1, V1 and Z1 that each error of the chapters ahead is told on with its place.
 func TestToldOn(t *testing.T) {
 	many := strings.Repeat("|", 300)
 	for _, c := range []struct {
@@ -96,7 +118,7 @@ func TestToldOn(t *testing.T) {
 	}
 }
 
-// TestManyStates holds just as many states as there may be, and one more, against D3, F2, K3 and L1.
+// TestManyStates holds just as many states as there may be, and one more, against D3, F2, K3, L1, V1 and Z1.
 func TestManyStates(t *testing.T) {
 	// State 0, one behind the name, and one behind each sign of the right side; a group adds one behind its helper.
 	row := func(count int) string { return strings.Repeat(" A", count) }
